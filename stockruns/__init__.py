@@ -1,0 +1,1 @@
+"""What stocks can come to."""

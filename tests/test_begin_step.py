@@ -72,8 +72,8 @@ class StepCall(unittest.TestCase):
             self.assertEqual(ask_last(*full, wrong), [-22])
 
     def test_refused_changes_nothing(self):
-        found = ask(begin(1), step([0], [3]), step([0], [10]), step([0, 0], [1]), step([2], [0]), do([5], 1), do([5], 0),
-                    do([5], 2))
+        found = ask(begin(1), step([0], [3]), step([0], [10]), step([0, 0], [1]), step([2], [0]),
+                    do([5], 1), do([5], 0), do([5], 2))
         self.assertEqual(found, [[0], [0], [-22], [-22], [1], [0, 3], [0, 8], [-2]])
 
     def test_the_thirteenth_changes_nothing(self):

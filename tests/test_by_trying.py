@@ -76,7 +76,9 @@ def some_world(chance):
     stocks = chance.randint(1, 4)
     steps = []
     for number in range(chance.randint(0, 4)):
-        steps.append((some_row(chance, stocks, chance.choice((1, 2, 9))), some_row(chance, stocks, chance.choice((1, 3, 9)))))
+        takes = some_row(chance, stocks, chance.choice((1, 2, 9)))
+        gives = some_row(chance, stocks, chance.choice((1, 3, 9)))
+        steps.append((takes, gives))
     return stocks, steps
 
 

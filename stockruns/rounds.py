@@ -6,6 +6,9 @@ all that one of them has.
 
 look_back answers two things: how many steps the shortest run has, or a refusal; and the list of the least states
 behind 0, 1, 2 .. rounds, up to that many. earliest_way goes forward again through that list.
+
+look_all_the_way_back answers two things: 0, or a refusal; and the least states behind the first round behind which one
+more brings nothing new. So a run comes there, however long, just from the states that have all that one of them has.
 """
 
 from stockruns.refusals import NEVER, TOO_MANY
@@ -46,22 +49,45 @@ def one_more_round(least, fresh, steps):
     return least_of(states)
 
 
+class Rounds:
+    def __init__(self, wanted, steps):
+        self.steps = steps
+        self.gone = [[wanted]]
+        self.fresh = [wanted]
+
+    def go_on(self):
+        last = self.gone[-1]
+        least = one_more_round(last, self.fresh, self.steps)
+        self.fresh = [state for state in least if state not in last]
+        self.gone.append(least)
+
+    def brought_nothing_new(self):
+        return len(self.fresh) == 0
+
+    def are_too_many(self):
+        # The first of them are those behind no round at all.
+        return len(self.gone[-1]) > MOST_LEAST_STATES or len(self.gone) - 1 > MOST_ROUNDS
+
+
 def look_back(first, wanted, steps):
-    rounds = []
-    least = [wanted]
-    fresh = [wanted]
-    for length in range(MOST_ROUNDS + 1):
-        # Before the run is looked at: it's refused too if the very round that finds it has more than the most.
-        if len(least) > MOST_LEAST_STATES:
-            return (TOO_MANY, rounds)
-        rounds.append(least)
-        if has_one_of(first, fresh):
-            return (length, rounds)
-        least = one_more_round(least, fresh, steps)
-        fresh = [state for state in least if state not in rounds[-1]]
-        if len(fresh) == 0:
-            return (NEVER, rounds)
-    return (TOO_MANY, rounds)
+    rounds = Rounds(wanted, steps)
+    # Before the run is looked at: it's refused too if the very round that finds it has more than the most.
+    while not rounds.are_too_many():
+        if has_one_of(first, rounds.fresh):
+            return (len(rounds.gone) - 1, rounds.gone)
+        rounds.go_on()
+        if rounds.brought_nothing_new():
+            return (NEVER, rounds.gone)
+    return (TOO_MANY, rounds.gone)
+
+
+def look_all_the_way_back(wanted, steps):
+    rounds = Rounds(wanted, steps)
+    while not rounds.are_too_many():
+        rounds.go_on()
+        if rounds.brought_nothing_new():
+            return (0, rounds.gone[-1])
+    return (TOO_MANY, rounds.gone[-1])
 
 
 def leads_into(step, state, least):

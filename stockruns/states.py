@@ -57,8 +57,39 @@ def answer_way(session, reader):
     return session.way(first, wanted)
 
 
+def answer_many(session, reader):
+    first = reader.read_row()
+    return session.many(first)
+
+
+def answer_stuck(session, reader):
+    first = reader.read_row()
+    return session.stuck(first)
+
+
+def answer_always(session, reader):
+    first = reader.read_row()
+    wanted = reader.read_row()
+    return session.always(first, wanted)
+
+
+def answer_keeps(session, reader):
+    weights = reader.read_row()
+    return session.keeps(weights)
+
+
 # In this order, because a call's number is its place here.
-CALLS = (answer_begin, answer_step, answer_do, answer_least, answer_way)
+CALLS = (
+    answer_begin,
+    answer_step,
+    answer_do,
+    answer_least,
+    answer_way,
+    answer_many,
+    answer_stuck,
+    answer_always,
+    answer_keeps,
+)
 
 
 def answers(calls):

@@ -3,7 +3,8 @@
 A state is a tuple: how much there is of each stock. It has what's wanted if it has as much of each, or more.
 
 A step takes so many of each stock and gives so many. state_behind is where it comes to from a state where it can
-be done; least_ahead is the least state where it can be done and behind which there's what's wanted.
+be done; least_ahead is the least state where it can be done and behind which there's what's wanted. It keeps a sum if
+what it gives weighs as much as what it takes.
 """
 
 
@@ -12,6 +13,10 @@ def has(state, wanted):
         if there < asked:
             return False
     return True
+
+
+def weigh(row, weights):
+    return sum([much * weight for much, weight in zip(row, weights)])
 
 
 class Step:
@@ -27,3 +32,6 @@ class Step:
 
     def least_ahead(self, wanted):
         return tuple([taken + max(0, asked - given) for asked, taken, given in zip(wanted, self.takes, self.gives)])
+
+    def keeps_sum(self, weights):
+        return weigh(self.gives, weights) == weigh(self.takes, weights)

@@ -29,6 +29,22 @@ def way(state, wanted):
     return [4, *row(state), *row(wanted)]
 
 
+def many(state):
+    return [5, *row(state)]
+
+
+def stuck(state):
+    return [6, *row(state)]
+
+
+def always(state, wanted):
+    return [7, *row(state), *row(wanted)]
+
+
+def keeps(weights):
+    return [8, *row(weights)]
+
+
 def lay(calls):
     return [number for call in calls for number in call]
 
@@ -55,5 +71,19 @@ def ask_last(*calls):
 
 
 def world(stocks, steps):
-    """The calls that make so many stocks and these steps."""
+    """The calls that make so many stocks and these steps, none of which may be one that is refused."""
+    for numbers in (part for one in steps for part in one):
+        if len(numbers) != stocks or max(numbers) > 9:
+            raise AssertionError(f"no such step of {stocks} stocks: {numbers}")
     return [begin(stocks)] + [step(takes, gives) for takes, gives in steps]
+
+
+def spread(much):
+    """Four stocks, first to fourth and first to second to third; so much of the third comes to one more of the first."""
+    steps = [
+        ([1, 0, 0, 0], [0, 0, 0, 1]),
+        ([0, 1, 0, 0], [0, 0, 1, 0]),
+        ([1, 0, 0, 0], [0, 1, 0, 0]),
+        ([0, 0, much, 0], [much + 1, 0, 0, 0]),
+    ]
+    return world(4, steps)

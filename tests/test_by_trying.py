@@ -1,6 +1,7 @@
 """Points 3 and 4, and what holds (a, b, e), against all runs of a few steps, tried one by one.
 
 What a run needs is told forward, from its first step to its last, so nothing of the program's own way back is used.
+Points 5 to 7 are in test_all_by_trying.py.
 """
 
 import itertools
@@ -9,24 +10,7 @@ import unittest
 
 from stockruns.states import answers
 from tests.calls import ask, lay, least, way, world
-
-
-def has(state, wanted):
-    return all(there >= asked for there, asked in zip(state, wanted))
-
-
-def need_of_run(run, wanted):
-    """The least state from which the run can be done and comes to what's wanted."""
-    need = [0] * len(wanted)
-    gained = [0] * len(wanted)
-    for takes, gives in run:
-        need = [max(much, taken - more) for much, taken, more in zip(need, takes, gained)]
-        gained = [more - taken + given for more, taken, given in zip(gained, takes, gives)]
-    return tuple(max(much, asked - more) for much, asked, more in zip(need, wanted, gained))
-
-
-def least_of(states):
-    return {state for state in states if not any(other != state and has(state, other) for other in states)}
+from tests.trying import has, least_of, need_of_run, some_row, some_world
 
 
 def least_states(steps, wanted, most):
@@ -66,20 +50,6 @@ def way_by_trying(length, steps, first, wanted):
         if can_be_done_to(run, steps, first, wanted):
             return [length, *run]
     raise AssertionError("there is no such run")
-
-
-def some_row(chance, stocks, most):
-    return [chance.randint(1, most) if chance.random() < 0.5 else 0 for place in range(stocks)]
-
-
-def some_world(chance):
-    stocks = chance.randint(1, 4)
-    steps = []
-    for number in range(chance.randint(0, 4)):
-        takes = some_row(chance, stocks, chance.choice((1, 2, 9)))
-        gives = some_row(chance, stocks, chance.choice((1, 3, 9)))
-        steps.append((takes, gives))
-    return stocks, steps
 
 
 class ByTrying(unittest.TestCase):

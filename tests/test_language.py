@@ -49,16 +49,19 @@ def bound_names(nodes):
     return names
 
 
-def own_attributes():
-    """The package's methods, and the values that its objects are given."""
+def own_methods():
     names = set()
     for path in FILES:
         for node in nodes_of(path):
             if isinstance(node, ast.ClassDef):
                 names |= {part.name for part in node.body if isinstance(part, ast.FunctionDef)}
-            elif isinstance(node, ast.Attribute) and isinstance(node.ctx, ast.Store):
-                names.add(node.attr)
     return names
+
+
+def own_values():
+    """The values that the package's objects are given."""
+    nodes = [node for path in FILES for node in nodes_of(path)]
+    return {node.attr for node in nodes if isinstance(node, ast.Attribute) and isinstance(node.ctx, ast.Store)}
 
 
 class Language(unittest.TestCase):
@@ -124,16 +127,19 @@ class Language(unittest.TestCase):
                     self.assertIn(node.id, bound | set(OWN_OF_PYTHON), (path, node.lineno))
 
     def test_attributes(self):
-        own = own_attributes()
+        own = own_methods() | own_values()
         for path in FILES:
             for node in nodes_of(path):
                 if isinstance(node, ast.Attribute):
                     self.assertIn(node.attr, own | set(METHODS_OF_PYTHON), (path, node.lineno))
 
     def test_own_attributes_are_free(self):
-        for name in own_attributes() - {"__init__"}:
+        for name in (own_methods() | own_values()) - {"__init__"}:
             for kind in (str, int, list, tuple, dict, set, frozenset, bytes, range, slice):
                 self.assertFalse(hasattr(kind, name), name)
+
+    def test_no_name_is_a_method_here_and_a_value_there(self):
+        self.assertEqual(own_methods() & own_values(), set())
 
     def test_words(self):
         for path in FILES:

@@ -79,7 +79,7 @@ def world(stocks, steps):
 
 
 def spread(much):
-    """Four stocks, first to fourth and first to second to third; so much of the third comes to one more of the first."""
+    """Four stocks: first to fourth, first to second to third; so much of the third comes to one more of the first."""
     steps = [
         ([1, 0, 0, 0], [0, 0, 0, 1]),
         ([0, 1, 0, 0], [0, 0, 1, 0]),
